@@ -1,0 +1,1 @@
+"""Strands of four letters; the calls are in fourletters.strands."""

@@ -1,0 +1,51 @@
+"""Strands of the letters A, C, G and T, packed two bits a letter."""
+
+REFUSAL = -2
+MOST_LETTERS = 4096
+LETTERS_A_NUMBER = 32
+
+# A letter's code is its place here: A 0, C 1, G 2, T 3.
+LETTERS = (65, 67, 71, 84)
+CODES = {65: 0, 67: 1, 71: 2, 84: 3}
+
+
+def pack(s):
+    """Answer 0 and the letters s packed, or the refusal alone."""
+    if len(s) > MOST_LETTERS or not all_are_letters(s):
+        return [REFUSAL]
+    return [0] + packed([CODES[letter] for letter in s])
+
+
+def unpack(n, strand):
+    """Answer 0 and the n letters of a packed strand, or the refusal alone."""
+    # Above the limit the strand may be too short for n, so it is not looked at.
+    if n > MOST_LETTERS:
+        return [REFUSAL]
+    return [0] + [LETTERS[code] for code in codes_of(n, strand)]
+
+
+def all_are_letters(s):
+    """Tell whether every byte of s is one of the four letters."""
+    for letter in s:
+        if letter not in CODES:
+            return False
+    return True
+
+
+def packed(codes):
+    """Give the numbers that hold these codes, with 0 past the last one."""
+    numbers = [0] * ((len(codes) + LETTERS_A_NUMBER - 1) // LETTERS_A_NUMBER)
+    for i, code in enumerate(codes):
+        place = i // LETTERS_A_NUMBER
+        numbers[place] = numbers[place] | (code << (2 * (i % LETTERS_A_NUMBER)))
+    return numbers
+
+
+def codes_of(n, strand):
+    """Give the codes of the first n letters of a packed strand."""
+    codes = []
+    for i in range(n):
+        number = strand[i // LETTERS_A_NUMBER]
+        # What lies past the n letters may be anything: only the two bits count.
+        codes.append((number >> (2 * (i % LETTERS_A_NUMBER))) & 3)
+    return codes

@@ -1,0 +1,88 @@
+"""What holds of every call alike: it changes, keeps and prints nothing, and answers whole numbers in a list."""
+
+import contextlib
+import copy
+import inspect
+import io
+import unittest
+
+from fourletters import strands
+from strand_cases import FULL, letters, packed_otherwise, some_letters
+
+PARAMETERS = {
+    "pack": ["s"],
+    "unpack": ["n", "strand"],
+}
+
+CALLS = [
+    (strands.pack, ([],)),
+    (strands.pack, (letters("GATTACA"),)),
+    (strands.pack, (some_letters(65),)),
+    (strands.pack, (some_letters(4096),)),
+    (strands.pack, (some_letters(4097),)),
+    (strands.pack, ([65, 97, 67],)),
+    (strands.unpack, (0, [])),
+    (strands.unpack, (1, [FULL])),
+    (strands.unpack, (7, [2 + 16 * 3 + 64 * 3 + 1024 * 1])),
+    (strands.unpack, (65, packed_otherwise(some_letters(65)))),
+    (strands.unpack, (4096, packed_otherwise(some_letters(4096)))),
+    (strands.unpack, (4097, [])),
+    (strands.unpack, (4294967295, [FULL] * 200)),
+]
+
+
+class Untouched(list):
+    """A list that fails at the first try to change it, even if it were changed back."""
+
+    def refuse(self, *args, **kwargs):
+        raise AssertionError("what was handed in was changed")
+
+    append = clear = extend = insert = pop = remove = reverse = sort = refuse
+    __setitem__ = __delitem__ = __iadd__ = __imul__ = refuse
+
+
+def untouched(value):
+    return Untouched(value) if isinstance(value, list) else value
+
+
+class Manners(unittest.TestCase):
+    def test_the_parameters_are_called_as_told(self):
+        for name, parameters in PARAMETERS.items():
+            self.assertEqual(list(inspect.signature(getattr(strands, name)).parameters), parameters)
+
+    def test_every_call_is_among_those_tried(self):
+        self.assertEqual({call.__name__ for call, _ in CALLS}, set(PARAMETERS))
+
+    def test_what_is_handed_in_stays(self):
+        for call, given in CALLS:
+            kept = [untouched(value) for value in given]
+            call(*kept)
+            self.assertEqual(kept, list(given))
+
+    def test_a_second_call_answers_the_same(self):
+        before = [copy.copy(call(*given)) for call, given in CALLS]
+        for (call, given), told in zip(CALLS, before):
+            answer = call(*given)
+            self.assertEqual(answer, told)
+            # Whoever has an answer may change it: the next answer is another list.
+            answer.append(9)
+            answer[0] = 9
+            self.assertEqual(call(*given), told)
+
+    def test_whole_numbers_in_a_list(self):
+        for call, given in CALLS:
+            answer = call(*given)
+            self.assertIs(type(answer), list)
+            for number in answer:
+                self.assertIs(type(number), int)
+
+    def test_nothing_is_printed(self):
+        told = io.StringIO()
+        with contextlib.redirect_stdout(told), contextlib.redirect_stderr(told):
+            for call, given in CALLS:
+                call(*given)
+        self.assertEqual(told.getvalue(), "")
+
+
+if __name__ == "__main__":
+    unittest.main()
