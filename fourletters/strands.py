@@ -3,6 +3,7 @@
 REFUSAL = -2
 MOST_LETTERS = 4096
 LETTERS_A_NUMBER = 32
+MOST_IN_A_WORD = 31
 
 # A letter's code is its place here: A 0, C 1, G 2, T 3.
 LETTERS = (65, 67, 71, 84)
@@ -22,6 +23,21 @@ def unpack(n, strand):
     if n > MOST_LETTERS:
         return [REFUSAL]
     return [0] + [LETTERS[code] for code in codes_of(n, strand)]
+
+
+def turn(n, strand):
+    """Answer 0 and the opposite of a packed strand, packed too, or the refusal alone."""
+    if n > MOST_LETTERS:
+        return [REFUSAL]
+    return [0] + packed(opposite(codes_of(n, strand)))
+
+
+def words(n, k, strand):
+    """Answer how many words of k letters there are, then the number of each, or the refusal alone."""
+    if n > MOST_LETTERS or k < 1 or k > MOST_IN_A_WORD:
+        return [REFUSAL]
+    numbers = word_numbers(codes_of(n, strand), k)
+    return [len(numbers)] + numbers
 
 
 def all_are_letters(s):
@@ -49,3 +65,23 @@ def codes_of(n, strand):
         # What lies past the n letters may be anything: only the two bits count.
         codes.append((number >> (2 * (i % LETTERS_A_NUMBER))) & 3)
     return codes
+
+
+def opposite(codes):
+    """Give the codes of the opposite strand."""
+    # A stands against T and C against G: the two codes always make up 3.
+    return [3 - code for code in reversed(codes)]
+
+
+def word_numbers(codes, k):
+    """Give for each place the word of k letters there or its opposite, whichever is less, as a number."""
+    numbers = []
+    word = 0
+    against = 0
+    for i, code in enumerate(codes):
+        word = ((word << 2) | code) & ((1 << (2 * k)) - 1)
+        # The last letter of a word stands against the first of its opposite, which weighs most.
+        against = (against >> 2) | ((3 - code) << (2 * (k - 1)))
+        if i >= k - 1:
+            numbers.append(min(word, against))
+    return numbers

@@ -5,6 +5,8 @@ FULL = 2 ** 64 - 1
 # No letter, one, and the edges of the first two numbers; then the most.
 LENGTHS = [0, 1, 2, 3, 31, 32, 33, 63, 64, 65, 100, 800, 4095, 4096]
 REFUSED = [-2]
+ABOVE_THE_MOST = [4097, 4098, 4128, 4200, 6400, 65536, 2 ** 31, 2 ** 32 - 4096, 4294967295]
+EXTRAS = [FULL, 2 ** 63, 0x5555555555555555, 0x123456789ABCDEF0]
 
 
 def letters(text):
@@ -21,6 +23,19 @@ def some_letters(count, seed=1):
     return told
 
 
+def some_text(count, seed=1):
+    return bytes(some_letters(count, seed)).decode()
+
+
+def packed_text(text):
+    return packed_otherwise(letters(text))
+
+
+def opposite_text(text):
+    """The opposite strand, by way of swapping signs."""
+    return text[::-1].translate(str.maketrans("ACGT", "TGCA"))
+
+
 def packed_otherwise(given):
     """The packed strand, by way of one long number that is cut every 64 bits."""
     whole = 0
@@ -31,3 +46,22 @@ def packed_otherwise(given):
         numbers.append(whole % 2 ** 64)
         whole //= 2 ** 64
     return numbers
+
+
+def with_bits_past(count, numbers, extra):
+    """The same strand, with the bits of extra where no letter stands."""
+    told = list(numbers)
+    if count % 32 != 0:
+        first_free = 2 * (count % 32)
+        told[-1] |= (extra >> first_free) << first_free
+    return told
+
+
+def words_otherwise(text, k):
+    """What words answers, word by word: both sides are read as numbers to the base four."""
+    to_digits = str.maketrans("ACGT", "0123")
+    told = []
+    for i in range(len(text) - k + 1):
+        sides = [text[i:i + k], opposite_text(text[i:i + k])]
+        told.append(min(int(side.translate(to_digits), 4) for side in sides))
+    return [len(told)] + told

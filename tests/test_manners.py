@@ -7,11 +7,13 @@ import io
 import unittest
 
 from fourletters import strands
-from strand_cases import FULL, letters, packed_otherwise, some_letters
+from strand_cases import FULL, letters, packed_otherwise, packed_text, some_letters
 
 PARAMETERS = {
     "pack": ["s"],
     "unpack": ["n", "strand"],
+    "turn": ["n", "strand"],
+    "words": ["n", "k", "strand"],
 }
 
 CALLS = [
@@ -28,6 +30,18 @@ CALLS = [
     (strands.unpack, (4096, packed_otherwise(some_letters(4096)))),
     (strands.unpack, (4097, [])),
     (strands.unpack, (4294967295, [FULL] * 200)),
+    (strands.turn, (0, [])),
+    (strands.turn, (1, [FULL])),
+    (strands.turn, (7, packed_text("GATTACA"))),
+    (strands.turn, (65, packed_otherwise(some_letters(65)))),
+    (strands.turn, (4096, packed_otherwise(some_letters(4096)))),
+    (strands.turn, (4097, [FULL] * 200)),
+    (strands.words, (0, 1, [])),
+    (strands.words, (7, 3, packed_text("GATTACA"))),
+    (strands.words, (30, 31, [FULL])),
+    (strands.words, (800, 31, packed_otherwise(some_letters(800)))),
+    (strands.words, (800, 0, packed_otherwise(some_letters(800)))),
+    (strands.words, (4097, 31, [FULL] * 200)),
 ]
 
 

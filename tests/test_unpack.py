@@ -1,16 +1,9 @@
 import unittest
 
 from fourletters.strands import pack, unpack
-from strand_cases import FULL, LENGTHS, REFUSED, letters, packed_otherwise, some_letters
-
-
-def with_bits_past(count, numbers, extra):
-    """The same strand, with the bits of extra where no letter stands."""
-    told = list(numbers)
-    if count % 32 != 0:
-        first_free = 2 * (count % 32)
-        told[-1] |= (extra >> first_free) << first_free
-    return told
+from strand_cases import (
+    ABOVE_THE_MOST, EXTRAS, FULL, LENGTHS, REFUSED, letters, packed_otherwise, some_letters, with_bits_past,
+)
 
 
 class UnpackedLetters(unittest.TestCase):
@@ -47,7 +40,7 @@ class UnpackedLetters(unittest.TestCase):
         self.assertEqual(unpack(1, [FULL - 3]), [0, 65])
         for count in LENGTHS + list(range(98)):
             given = some_letters(count, count + 2)
-            for extra in [FULL, 2 ** 63, 0x5555555555555555, 0x123456789ABCDEF0]:
+            for extra in EXTRAS:
                 strand = with_bits_past(count, packed_otherwise(given), extra)
                 self.assertEqual(unpack(count, strand), [0] + given)
 
@@ -59,7 +52,7 @@ class UnpackedLetters(unittest.TestCase):
 
 class Refused(unittest.TestCase):
     def test_n_above_the_most(self):
-        for n in [4097, 4098, 4128, 4200, 6400, 65536, 2 ** 31, 2 ** 32 - 4096, 4294967295]:
+        for n in ABOVE_THE_MOST:
             for count in [0, 1, 128, 129, 200]:
                 for number in [0, 1, FULL]:
                     self.assertEqual(unpack(n, [number] * count), REFUSED)
