@@ -4,6 +4,7 @@ REFUSAL = -2
 MOST_LETTERS = 4096
 LETTERS_A_NUMBER = 32
 MOST_IN_A_WORD = 31
+MOST_IN_A_ROW = 256
 
 # A letter's code is its place here: A 0, C 1, G 2, T 3.
 LETTERS = (65, 67, 71, 84)
@@ -38,6 +39,23 @@ def words(n, k, strand):
         return [REFUSAL]
     numbers = word_numbers(codes_of(n, strand), k)
     return [len(numbers)] + numbers
+
+
+def least(n, k, m, strand):
+    """Answer how many places have the least word of m in a row, then these places, or the refusal alone."""
+    if n > MOST_LETTERS or k < 1 or k > MOST_IN_A_WORD or m < 1 or m > MOST_IN_A_ROW:
+        return [REFUSAL]
+    places = least_places(word_numbers(codes_of(n, strand), k), m)
+    return [len(places)] + places
+
+
+def protein(n, from_letter, strand, table):
+    """Answer how many threes there are from a letter on, then the table's byte for each, or the refusal alone."""
+    if n > MOST_LETTERS or from_letter > n:
+        return [REFUSAL]
+    codes = codes_of(n, strand)
+    told = [table[three_at(codes, i)] for i in range(from_letter, n - 2, 3)]
+    return [len(told)] + told
 
 
 def all_are_letters(s):
@@ -85,3 +103,23 @@ def word_numbers(codes, k):
         if i >= k - 1:
             numbers.append(min(word, against))
     return numbers
+
+
+def least_places(numbers, m):
+    """Give the place of the least of every m numbers in a row, the first of such, each place once, rising."""
+    if len(numbers) == 0:
+        return []
+    places = []
+    # Fewer than m numbers still make one row.
+    for start in range(max(1, len(numbers) - m + 1)):
+        row = numbers[start:start + m]
+        place = start + row.index(min(row))
+        # From row to row the place stays or goes on, never back, so it can only be the last one again.
+        if len(places) == 0 or places[-1] != place:
+            places.append(place)
+    return places
+
+
+def three_at(codes, i):
+    """Give the number of the three letters from place i on."""
+    return 16 * codes[i] + 4 * codes[i + 1] + codes[i + 2]

@@ -14,6 +14,8 @@ PARAMETERS = {
     "unpack": ["n", "strand"],
     "turn": ["n", "strand"],
     "words": ["n", "k", "strand"],
+    "least": ["n", "k", "m", "strand"],
+    "protein": ["n", "from_letter", "strand", "table"],
 }
 
 CALLS = [
@@ -42,6 +44,18 @@ CALLS = [
     (strands.words, (800, 31, packed_otherwise(some_letters(800)))),
     (strands.words, (800, 0, packed_otherwise(some_letters(800)))),
     (strands.words, (4097, 31, [FULL] * 200)),
+    (strands.least, (0, 1, 1, [])),
+    (strands.least, (7, 3, 2, packed_text("GATTACA"))),
+    (strands.least, (30, 31, 256, [FULL])),
+    (strands.least, (800, 31, 256, packed_otherwise(some_letters(800)))),
+    (strands.least, (800, 31, 257, packed_otherwise(some_letters(800)))),
+    (strands.least, (4097, 31, 1, [FULL] * 200)),
+    (strands.protein, (0, 0, [], list(range(64)))),
+    (strands.protein, (7, 1, packed_text("GATTACA"), list(range(64)))),
+    (strands.protein, (7, 7, [FULL], [255] * 64)),
+    (strands.protein, (7, 8, [FULL], [255] * 64)),
+    (strands.protein, (4096, 2, packed_otherwise(some_letters(4096)), list(range(255, 191, -1)))),
+    (strands.protein, (4097, 0, [FULL] * 200, [0] * 64)),
 ]
 
 
