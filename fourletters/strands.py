@@ -5,15 +5,20 @@ MOST_LETTERS = 4096
 LETTERS_A_NUMBER = 32
 MOST_IN_A_WORD = 31
 MOST_IN_A_ROW = 256
+MOST_BESIDE = 1024
 
 # A letter's code is its place here: A 0, C 1, G 2, T 3.
 LETTERS = (65, 67, 71, 84)
 CODES = {65: 0, 67: 1, 71: 2, 84: 3}
 
+# By their numbers as three letters: ATG, and TAA, TAG, TGA.
+GENE_START = 14
+GENE_ENDS = (48, 50, 56)
+
 
 def pack(s):
     """Answer 0 and the letters s packed, or the refusal alone."""
-    if len(s) > MOST_LETTERS or not all_are_letters(s):
+    if not is_strand(s, MOST_LETTERS):
         return [REFUSAL]
     return [0] + packed([CODES[letter] for letter in s])
 
@@ -58,8 +63,31 @@ def protein(n, from_letter, strand, table):
     return [len(told)] + told
 
 
-def all_are_letters(s):
-    """Tell whether every byte of s is one of the four letters."""
+def gene(n, strand):
+    """Answer the threes, the side and the place of the longest gene, 0 alone if there is none, or the refusal alone."""
+    if n > MOST_LETTERS:
+        return [REFUSAL]
+    codes = codes_of(n, strand)
+    told = [0]
+    for side, codes_there in enumerate([codes, opposite(codes)]):
+        for place, threes in enumerate(gene_lengths(codes_there)):
+            # The lesser side and place come first, so they stay where another gene has only as many.
+            if threes > told[0]:
+                told = [threes, side, place]
+    return told
+
+
+def apart(a, b):
+    """Answer how many changes lie between a and b at the least, or the refusal alone."""
+    if not is_strand(a, MOST_BESIDE) or not is_strand(b, MOST_BESIDE):
+        return [REFUSAL]
+    return [fewest_changes(a, b)]
+
+
+def is_strand(s, most):
+    """Tell whether s has no more bytes than that, and each is one of the four letters."""
+    if len(s) > most:
+        return False
     for letter in s:
         if letter not in CODES:
             return False
@@ -123,3 +151,28 @@ def least_places(numbers, m):
 def three_at(codes, i):
     """Give the number of the three letters from place i on."""
     return 16 * codes[i] + 4 * codes[i + 1] + codes[i + 2]
+
+
+def gene_lengths(codes):
+    """Give for each place the threes of the gene that begins there, or 0 if none does."""
+    # How many threes there are from a place up to the first that ends a gene, both counted; 0 if none does.
+    reach = [0] * (len(codes) + 1)
+    for i in range(len(codes) - 3, -1, -1):
+        if three_at(codes, i) in GENE_ENDS:
+            reach[i] = 1
+        elif reach[i + 3] > 0:
+            reach[i] = reach[i + 3] + 1
+    return [reach[i] if three_at(codes, i) == GENE_START else 0 for i in range(len(codes) - 2)]
+
+
+def fewest_changes(a, b):
+    """Give the least number of D, of I and of M whose letters differ, of all lines of a and b."""
+    # A row holds the numbers for what is taken of a so far beside each beginning of b.
+    row = list(range(len(b) + 1))
+    for i, letter in enumerate(a):
+        after = [i + 1]
+        for j, other in enumerate(b):
+            change = 0 if letter == other else 1
+            after.append(min(row[j] + change, row[j + 1] + 1, after[j] + 1))
+        row = after
+    return row[len(b)]

@@ -1,5 +1,7 @@
 """What the tests of the calls share: strands, and a second way to pack them."""
 
+import functools
+
 BYTES = {"A": 65, "C": 67, "G": 71, "T": 84}
 FULL = 2 ** 64 - 1
 # No letter, one, and the edges of the first two numbers; then the most.
@@ -65,3 +67,26 @@ def words_otherwise(text, k):
         sides = [text[i:i + k], opposite_text(text[i:i + k])]
         told.append(min(int(side.translate(to_digits), 4) for side in sides))
     return [len(told)] + told
+
+
+@functools.lru_cache(maxsize=None)
+def all_lines(of_a, of_b):
+    """Every line of strands of so many letters, the first first: M before D before I."""
+    if of_a == 0 and of_b == 0:
+        return [""]
+    told = []
+    for step, less_a, less_b in [("M", 1, 1), ("D", 1, 0), ("I", 0, 1)]:
+        if less_a <= of_a and less_b <= of_b:
+            told += [step + rest for rest in all_lines(of_a - less_a, of_b - less_b)]
+    return told
+
+
+def walk(line, a, b):
+    """The steps of a line, each with whether an M's letters are alike."""
+    told = []
+    i = j = 0
+    for step in line:
+        told.append((step, step == "M" and a[i] == b[j]))
+        i += step in "MD"
+        j += step in "MI"
+    return told

@@ -16,6 +16,8 @@ PARAMETERS = {
     "words": ["n", "k", "strand"],
     "least": ["n", "k", "m", "strand"],
     "protein": ["n", "from_letter", "strand", "table"],
+    "gene": ["n", "strand"],
+    "apart": ["a", "b"],
 }
 
 CALLS = [
@@ -56,6 +58,21 @@ CALLS = [
     (strands.protein, (7, 8, [FULL], [255] * 64)),
     (strands.protein, (4096, 2, packed_otherwise(some_letters(4096)), list(range(255, 191, -1)))),
     (strands.protein, (4097, 0, [FULL] * 200, [0] * 64)),
+    (strands.gene, (0, [])),
+    (strands.gene, (6, packed_text("ATGTAA"))),
+    (strands.gene, (9, packed_text("TTACATCAT"))),
+    (strands.gene, (800, packed_otherwise(some_letters(800)))),
+    (strands.gene, (4097, [FULL] * 200)),
+    (strands.apart, ([], [])),
+    (strands.apart, (letters("GATTACA"), letters("ATTAGCA"))),
+    (strands.apart, (some_letters(100), some_letters(90, 2))),
+    (strands.apart, (some_letters(1025), [])),
+    (strands.apart, ([65], [65, 97])),
+]
+
+# Calls of two strands, which may be one and the same list.
+CALLS_OF_TWO = [
+    (strands.apart, ()),
 ]
 
 
@@ -86,6 +103,14 @@ class Manners(unittest.TestCase):
             kept = [untouched(value) for value in given]
             call(*kept)
             self.assertEqual(kept, list(given))
+
+    def test_one_list_as_both_strands(self):
+        for call, ahead in CALLS_OF_TWO:
+            for given in [[], letters("GATTACA"), some_letters(65), [65, 97]]:
+                kept = untouched(given)
+                answer = call(*ahead, kept, kept)
+                self.assertEqual(kept, given)
+                self.assertEqual(answer, call(*ahead, list(given), list(given)))
 
     def test_a_second_call_answers_the_same(self):
         before = [copy.copy(call(*given)) for call, given in CALLS]
