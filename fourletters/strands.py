@@ -6,6 +6,7 @@ LETTERS_A_NUMBER = 32
 MOST_IN_A_WORD = 31
 MOST_IN_A_ROW = 256
 MOST_BESIDE = 1024
+MOST_IN_A_LINE = 64
 
 # A letter's code is its place here: A 0, C 1, G 2, T 3.
 LETTERS = (65, 67, 71, 84)
@@ -14,6 +15,12 @@ CODES = {65: 0, 67: 1, 71: 2, 84: 3}
 # By their numbers as three letters: ATG, and TAA, TAG, TGA.
 GENE_START = 14
 GENE_ENDS = (48, 50, 56)
+
+# The steps of a line: M takes a letter of both strands, D one of the first, I one of the second.
+STEP_M = 77
+STEP_D = 68
+STEP_I = 73
+STEPS = (77, 68, 73)
 
 
 def pack(s):
@@ -84,12 +91,38 @@ def apart(a, b):
     return [fewest_changes(a, b)]
 
 
+def local(scores, a, b):
+    """Answer 0, what two parts of a and b earn at most, and their places i, j, k, l, or the refusal alone."""
+    if not are_scores(scores) or not is_strand(a, MOST_BESIDE) or not is_strand(b, MOST_BESIDE):
+        return [REFUSAL]
+    return [0] + best_parts(scores, a, b)
+
+
+def line(scores, a, b):
+    """Answer how many steps the first of the best lines has, what it earns, and the steps, or the refusal alone."""
+    if not are_scores(scores) or not is_strand(a, MOST_IN_A_LINE) or not is_strand(b, MOST_IN_A_LINE):
+        return [REFUSAL]
+    rest = most_of_rest(scores, a, b)
+    steps = first_best_steps(scores, a, b, rest)
+    return [len(steps), rest[(0, 0, STEP_M)]] + steps
+
+
 def is_strand(s, most):
     """Tell whether s has no more bytes than that, and each is one of the four letters."""
     if len(s) > most:
         return False
     for letter in s:
         if letter not in CODES:
+            return False
+    return True
+
+
+def are_scores(scores):
+    """Tell whether an M of like letters earns 0 to 100, and each of the other three scores is -1000 to 0."""
+    if scores[0] < 0 or scores[0] > 100:
+        return False
+    for score in scores[1:]:
+        if score < -1000 or score > 0:
             return False
     return True
 
@@ -176,3 +209,97 @@ def fewest_changes(a, b):
             after.append(min(row[j] + change, row[j + 1] + 1, after[j] + 1))
         row = after
     return row[len(b)]
+
+
+def letter_score(scores, letter, other):
+    """Give what an M of these letters earns."""
+    return scores[0] if letter == other else scores[1]
+
+
+def gap_score(scores, step, last):
+    """Give what a D or I earns: as a further one behind a step of its own kind, else as a first one."""
+    return scores[3] if step == last else scores[2]
+
+
+def most_of_rest(scores, a, b):
+    """Give what the rest of a line earns at most, by how many letters of a and of b are taken, and the last step."""
+    rest = {}
+    for i in range(len(a), -1, -1):
+        for j in range(len(b), -1, -1):
+            for last in STEPS:
+                ways = ways_on(scores, a, b, rest, (i, j, last))
+                rest[(i, j, last)] = max([earned for ahead, earned in ways], default=0)
+    return rest
+
+
+def ways_on(scores, a, b, rest, place):
+    """Give the places one step ahead, M before D before I, each with what the rest of the line earns by that way."""
+    i = place[0]
+    j = place[1]
+    ways = []
+    if i < len(a) and j < len(b):
+        ahead = (i + 1, j + 1, STEP_M)
+        ways.append((ahead, letter_score(scores, a[i], b[j]) + rest[ahead]))
+    if i < len(a):
+        ahead = (i + 1, j, STEP_D)
+        ways.append((ahead, gap_score(scores, STEP_D, place[2]) + rest[ahead]))
+    if j < len(b):
+        ahead = (i, j + 1, STEP_I)
+        ways.append((ahead, gap_score(scores, STEP_I, place[2]) + rest[ahead]))
+    return ways
+
+
+def first_best_steps(scores, a, b, rest):
+    """Give the steps of the first line of those that earn most."""
+    steps = []
+    # A D or I that opens a line is a first one, as it is behind an M.
+    place = (0, 0, STEP_M)
+    while place[0] < len(a) or place[1] < len(b):
+        best = [ahead for ahead, earned in ways_on(scores, a, b, rest, place) if earned == rest[place]]
+        place = best[0]
+        steps.append(place[2])
+    return steps
+
+
+def best_parts(scores, a, b):
+    """Give what two parts of a and b earn at most, and the places i, j, k, l of the parts that are told."""
+    told = [0, 0, 0, 0, 0]
+    row = []
+    for j in range(len(a) + 1):
+        row = next_row(scores, a, b, j, row)
+        for l, starts in enumerate(row):
+            best = max(starts.values())
+            # The least j and of such the least l come first, so they stay where others earn only as much.
+            if best[0] > told[0]:
+                told = [best[0], best[1], j, best[2], l]
+    return told
+
+
+def next_row(scores, a, b, j, row):
+    """Give for each end l of b, beside the end j of a, the best start by the last step: what is earned, i and k.
+
+    Of starts that earn as much the greatest i, then the greatest k is best: that is how the tuples compare.
+    """
+    after = []
+    for l in range(len(b) + 1):
+        # Empty parts have no last step: what follows them is as it is behind an M.
+        starts = {STEP_M: (0, j, l)}
+        if j > 0 and l > 0:
+            earned = letter_score(scores, a[j - 1], b[l - 1])
+            starts[STEP_M] = max(starts[STEP_M], earning(max(row[l - 1].values()), earned))
+        if j > 0:
+            starts[STEP_D] = best_with_gap(scores, STEP_D, row[l])
+        if l > 0:
+            starts[STEP_I] = best_with_gap(scores, STEP_I, after[l - 1])
+        after.append(starts)
+    return after
+
+
+def best_with_gap(scores, step, starts):
+    """Give the best start for a line that goes on with such a D or I."""
+    return max([earning(start, gap_score(scores, step, last)) for last, start in starts.items()])
+
+
+def earning(start, earned):
+    """Give the same start with so much more earned."""
+    return (start[0] + earned, start[1], start[2])

@@ -1,4 +1,4 @@
-"""What the tests of the calls share: strands, and a second way to pack them."""
+"""What the tests of the calls share: strands, scores, and plain second ways to reckon with them."""
 
 import functools
 
@@ -90,3 +90,33 @@ def walk(line, a, b):
         i += step in "MD"
         j += step in "MI"
     return told
+
+
+def earned_by(scores, line, a, b):
+    """What a line earns, step by step."""
+    earned = 0
+    last = ""
+    for step, alike in walk(line, a, b):
+        if step == "M":
+            earned += scores[0] if alike else scores[1]
+        else:
+            earned += scores[3] if step == last else scores[2]
+        last = step
+    return earned
+
+
+# Scores that are told: everyday ones, zeros in every place, edges, and a first gap that is dearer or cheaper.
+SCORES = [
+    [1, -1, -2, -1], [5, -4, -10, -1], [2, -3, -5, -2], [1, -1, -1, -1], [1, 0, 0, 0], [0, 0, 0, 0], [0, -1, -1, -1],
+    [1, 0, -1, -1], [1, -1, 0, -1], [1, -1, -1, 0], [2, -1, 0, 0], [3, -2, -1, -4], [3, -5, 0, -4], [3, -5, -4, 0],
+    [2, 0, -1, 0], [2, 0, 0, -1], [0, 0, -1, 0], [0, 0, 0, -1], [0, -1, 0, 0], [100, -1000, -1000, -1000],
+    [100, 0, 0, 0], [100, -1000, 0, 0], [0, -1000, -1000, 0], [0, -1000, 0, -1000], [100, -50, -50, -25],
+]
+# One below and one above what each of the four scores may be, and what may be handed in at the least and the most.
+SCORES_REFUSED = [
+    [-1, -1, -1, -1], [101, -1, -1, -1], [-2000, -1, -1, -1], [30000, -1, -1, -1],
+    [1, -1001, -1, -1], [1, 1, -1, -1], [1, -2000, -1, -1], [1, 30000, -1, -1],
+    [1, -1, -1001, -1], [1, -1, 1, -1], [1, -1, -2000, -1], [1, -1, 30000, -1],
+    [1, -1, -1, -1001], [1, -1, -1, 1], [1, -1, -1, -2000], [1, -1, -1, 30000],
+    [-1, 0, 0, 0], [0, 1, 0, 0], [0, 0, 1, 0], [0, 0, 0, 1], [101, 1, 1, 1], [-2000] * 4, [30000] * 4,
+]

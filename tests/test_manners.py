@@ -1,9 +1,11 @@
 """What holds of every call alike: it changes, keeps and prints nothing, and answers whole numbers in a list."""
 
+import ast
 import contextlib
 import copy
 import inspect
 import io
+import sys
 import unittest
 
 from fourletters import strands
@@ -18,6 +20,8 @@ PARAMETERS = {
     "protein": ["n", "from_letter", "strand", "table"],
     "gene": ["n", "strand"],
     "apart": ["a", "b"],
+    "local": ["scores", "a", "b"],
+    "line": ["scores", "a", "b"],
 }
 
 CALLS = [
@@ -68,11 +72,25 @@ CALLS = [
     (strands.apart, (some_letters(100), some_letters(90, 2))),
     (strands.apart, (some_letters(1025), [])),
     (strands.apart, ([65], [65, 97])),
+    (strands.local, ([1, -1, -2, -1], [], [])),
+    (strands.local, ([0, 0, 0, 0], letters("GATTACA"), letters("GATTACA"))),
+    (strands.local, ([1, -1, -2, -1], letters("GATTACA"), letters("CATTAGA"))),
+    (strands.local, ([1, 0, 0, 0], some_letters(40), some_letters(30, 2))),
+    (strands.local, ([101, 0, 0, 0], letters("A"), letters("A"))),
+    (strands.local, ([1, 0, 0, 0], some_letters(1025), [])),
+    (strands.line, ([1, -1, -2, -1], [], [])),
+    (strands.line, ([0, 0, 0, 0], letters("GATTACA"), letters("GATTACA"))),
+    (strands.line, ([1, -1, -2, -1], letters("GATTACA"), letters("CATTAGA"))),
+    (strands.line, ([1, 0, 0, 0], some_letters(64), some_letters(60, 2))),
+    (strands.line, ([1, 0, 1, 0], letters("A"), letters("A"))),
+    (strands.line, ([1, 0, 0, 0], some_letters(65), [])),
 ]
 
 # Calls of two strands, which may be one and the same list.
 CALLS_OF_TWO = [
     (strands.apart, ()),
+    (strands.local, ([2, -1, -2, -1],)),
+    (strands.line, ([2, -1, -2, -1],)),
 ]
 
 
@@ -88,6 +106,11 @@ class Untouched(list):
 
 def untouched(value):
     return Untouched(value) if isinstance(value, list) else value
+
+
+def kept_values():
+    """What stands at the top of the module beside its functions."""
+    return {name: value for name, value in vars(strands).items() if name.isupper()}
 
 
 class Manners(unittest.TestCase):
@@ -121,6 +144,33 @@ class Manners(unittest.TestCase):
             answer.append(9)
             answer[0] = 9
             self.assertEqual(call(*given), told)
+
+    def test_the_order_of_calls_does_not_matter(self):
+        before = [call(*given) for call, given in CALLS]
+        after = [call(*given) for call, given in reversed(CALLS)]
+        self.assertEqual(after[::-1], before)
+
+    def test_nothing_is_kept(self):
+        before = copy.deepcopy(kept_values())
+        for call, given in CALLS:
+            call(*given)
+        self.assertEqual(kept_values(), before)
+
+    def test_no_calls_deep_within_one_another(self):
+        limit = sys.getrecursionlimit()
+        # Far fewer than the letters of the longest strands.
+        sys.setrecursionlimit(len(inspect.stack()) + 20)
+        try:
+            for call, given in CALLS:
+                call(*given)
+        finally:
+            sys.setrecursionlimit(limit)
+
+    def test_nothing_is_imported_or_read(self):
+        source = ast.parse(inspect.getsource(strands))
+        for node in ast.walk(source):
+            self.assertNotIsInstance(node, (ast.Import, ast.ImportFrom))
+            self.assertNotIn(getattr(node, "id", ""), ("open", "input", "print"))
 
     def test_whole_numbers_in_a_list(self):
         for call, given in CALLS:
